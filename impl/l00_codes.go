@@ -1,5 +1,10 @@
 package impl
 
+import (
+	"strconv"
+	"strings"
+)
+
 const (
 	MaxText = 65536
 	MaxList = 4096
@@ -38,6 +43,9 @@ const (
 	ErrShadow = 30
 	ErrDone   = 31
 )
+
+// mostDigits bounds the digits of a number's text.
+const mostDigits = 18
 
 // codeWords has the word of each code at the code's own place.
 var codeWords = [...]string{
@@ -94,6 +102,24 @@ func isLetter(c byte) bool {
 }
 
 func isDigit(c byte) bool { return c >= '0' && c <= '9' }
+
+// readNumber answers the number whose text t is, or that it is none.
+func readNumber(t string) (int, bool) {
+	if len(strings.TrimPrefix(t, "-")) > mostDigits {
+		return 0, false
+	}
+	// Atoi reads more than is a number's text: a plus, needless noughts, a minus ahead of a lone one.
+	v, err := strconv.Atoi(t)
+	if err != nil || strconv.Itoa(v) != t {
+		return 0, false
+	}
+	return v, true
+}
+
+// blankWords answers the runs of bytes of t that are not blanks.
+func blankWords(t string) []string {
+	return strings.FieldsFunc(t, func(r rune) bool { return r == ' ' })
+}
 
 // CodeWord answers the word of a code, the empty text of any other number.
 func CodeWord(code int) string {

@@ -12,11 +12,15 @@ var wildInts = []int{leastInt, leastInt + 1, -4294967297, -1, 0, 1, 2, 4, 8, 31,
 var wildTexts = []string{"", "a", "ok", "_a9", "00ff", "0", "\xff\x00\x80", "é", "abcdefghijabcdefghij", "abcdefghijabcdefghijk",
 	strings.Repeat("0", impl.MaxText), strings.Repeat("0", impl.MaxText+1), strings.Repeat("a", 4*impl.MaxText)}
 
+var wildInstrTexts = []string{"ecall", " addi  x1 x2 -1 ", "addi x1 x2 -01", "lui x5 305418240", "jal x1 999999999999999999", "beq x1", strings.Repeat("sub ", impl.MaxText/4), strings.Repeat(" ", impl.MaxText) + "ecall"}
+
 // answer is all that any of the calls may answer.
 type answer struct {
 	number int
 	text   string
 	yes    bool
+	shape  impl.Shape
+	instr  impl.Instr
 	code   int
 }
 
@@ -54,13 +58,53 @@ func bytesCalls() []func() answer {
 	return calls
 }
 
+func instrAnswer(x impl.Instr, code int) answer { return answer{instr: x, code: code} }
+
+func shapeAnswer(shape impl.Shape, code int) answer { return answer{shape: shape, code: code} }
+
+// codeCalls hands out each call of chapter 3 with each of the wild arguments.
+func codeCalls() []func() answer {
+	var calls []func() answer
+	add := func(call func() answer) { calls = append(calls, call) }
+	for _, text := range append(wildInstrTexts, wildTexts...) {
+		add(func() answer { return answer{number: impl.OpOf(text)} })
+		add(func() answer { return instrAnswer(impl.ReadInstr(text)) })
+	}
+	for _, a := range wildInts {
+		add(func() answer { return answer{text: impl.OpName(a)} })
+		add(func() answer { return shapeAnswer(impl.ShapeOf(a)) })
+		add(func() answer { return instrAnswer(impl.Decode(a)) })
+	}
+	for _, x := range wildInstrs() {
+		add(func() answer { return answer{yes: impl.InstrOK(x)} })
+		add(func() answer { return numberAnswer(impl.Encode(x)) })
+		add(func() answer { return textAnswer(impl.InstrText(x)) })
+	}
+	return calls
+}
+
+// wildInstrs answers instructions, most of them wrong: each number of a base at each of the wild ones.
+func wildInstrs() []impl.Instr {
+	var list []impl.Instr
+	for op := -1; op <= 66; op++ {
+		list = append(list, impl.Instr{Op: op}, impl.Instr{Op: op, Rd: 1, Rs1: 2, Rs2: 3, Imm: 4})
+		for _, v := range wildInts {
+			list = append(list, impl.Instr{Op: op, Rd: v}, impl.Instr{Op: op, Rs1: v}, impl.Instr{Op: op, Rs2: v}, impl.Instr{Op: op, Imm: v}, impl.Instr{Op: op, Rd: v, Rs1: v, Rs2: v, Imm: v})
+		}
+	}
+	for _, op := range wildInts {
+		list = append(list, impl.Instr{Op: op})
+	}
+	return list
+}
+
 // A panic in a call fails the test by itself.
 func TestAlikeArgumentsHaveAlikeAnswers(t *testing.T) {
-	calls := bytesCalls()
+	calls := append(bytesCalls(), codeCalls()...)
 	first := make([]answer, len(calls))
 	for i, call := range calls {
 		first[i] = call()
-		if got := first[i]; got.code != impl.OK && (got.number != 0 || got.text != "") {
+		if got := first[i]; got.code != impl.OK && got != (answer{code: got.code}) {
 			t.Errorf("call %d answers something beside the code %d", i, got.code)
 		}
 	}

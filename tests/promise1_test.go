@@ -1,6 +1,7 @@
 package tests
 
 import (
+	"slices"
 	"strings"
 	"testing"
 
@@ -17,6 +18,7 @@ var wildInstrTexts = []string{"ecall", " addi  x1 x2 -1 ", "addi x1 x2 -01", "lu
 // answer is all that any of the calls may answer.
 type answer struct {
 	number int
+	second int
 	text   string
 	yes    bool
 	shape  impl.Shape
@@ -98,9 +100,43 @@ func wildInstrs() []impl.Instr {
 	return list
 }
 
+func pairAnswer(number, second int) answer { return answer{number: number, second: second} }
+
+func yesAnswer(yes bool, code int) answer { return answer{yes: yes, code: code} }
+
+func widthAnswer(number int, yes bool, code int) answer {
+	return answer{number: number, yes: yes, code: code}
+}
+
+// aluCalls hands out each call of chapter 4 with each of the wild arguments.
+func aluCalls() []func() answer {
+	var calls []func() answer
+	add := func(call func() answer) { calls = append(calls, call) }
+	ops := slices.Clone(wildInts)
+	for op := -2; op <= 66; op++ {
+		ops = append(ops, op)
+	}
+	for _, op := range ops {
+		add(func() answer { return widthAnswer(impl.WidthOf(op)) })
+	}
+	for _, a := range wildInts {
+		add(func() answer { return answer{number: impl.WordOf(a)} })
+		for _, b := range wildInts {
+			add(func() answer { return answer{yes: impl.BelowU(a, b)} })
+			add(func() answer { return pairAnswer(impl.MulWide(a, b)) })
+			add(func() answer { return pairAnswer(impl.DivideU(a, b)) })
+			for _, op := range ops {
+				add(func() answer { return numberAnswer(impl.Compute(op, a, b)) })
+				add(func() answer { return yesAnswer(impl.Taken(op, a, b)) })
+			}
+		}
+	}
+	return calls
+}
+
 // A panic in a call fails the test by itself.
 func TestAlikeArgumentsHaveAlikeAnswers(t *testing.T) {
-	calls := append(bytesCalls(), codeCalls()...)
+	calls := slices.Concat(bytesCalls(), codeCalls(), aluCalls())
 	first := make([]answer, len(calls))
 	for i, call := range calls {
 		first[i] = call()

@@ -1,6 +1,7 @@
 package tests
 
 import (
+	"fmt"
 	"slices"
 	"strings"
 	"testing"
@@ -15,6 +16,9 @@ var wildTexts = []string{"", "a", "ok", "_a9", "00ff", "0", "\xff\x00\x80", "é"
 
 var wildInstrTexts = []string{"ecall", " addi  x1 x2 -1 ", "addi x1 x2 -01", "lui x5 305418240", "jal x1 999999999999999999", "beq x1", strings.Repeat("sub ", impl.MaxText/4), strings.Repeat(" ", impl.MaxText) + "ecall"}
 
+// wildMemories has memories that are right, and some that are not.
+var wildMemories = []impl.Memory{{}, mixedMemory(), fullMemory(), memoryOf(3, 0, lastBase), memoryOf(3, 128, 128), memoryOf(16, 0), memoryOf(3, behind), memoryOf(3, basesFrom(0, 128, 65)...), {Pages: []impl.Page{{Data: "a"}}}}
+
 // answer is all that any of the calls may answer.
 type answer struct {
 	number int
@@ -23,6 +27,7 @@ type answer struct {
 	yes    bool
 	shape  impl.Shape
 	instr  impl.Instr
+	memory string
 	code   int
 }
 
@@ -134,9 +139,59 @@ func aluCalls() []func() answer {
 	return calls
 }
 
+// memoryText answers a text that tells each thing of a memory, the empty text of none.
+func memoryText(m impl.Memory) string {
+	if len(m.Pages) == 0 {
+		return ""
+	}
+	return fmt.Sprint(m.Pages)
+}
+
+// asItWas takes the answer of a call that answers the memory as it was with some codes; there that memory counts as nothing.
+func asItWas(given impl.Memory, codes ...int) func(m impl.Memory, code int) answer {
+	return func(m impl.Memory, code int) answer {
+		text := memoryText(m)
+		if slices.Contains(codes, code) {
+			text = strings.TrimPrefix(text, memoryText(given))
+		}
+		return answer{memory: text, code: code}
+	}
+}
+
+// memoryCalls hands out each call of chapter 5 with each of the wild arguments.
+func memoryCalls() []func() answer {
+	var calls []func() answer
+	add := func(call func() answer) { calls = append(calls, call) }
+	for _, m := range wildMemories {
+		add(func() answer { return answer{yes: impl.MemoryOK(m)} })
+		for _, other := range wildMemories {
+			add(func() answer { return answer{yes: impl.SameMemory(m, other)} })
+		}
+		for _, a := range append([]int{128, 4096, 16384, lastBase}, wildInts...) {
+			add(func() answer { return numberAnswer(impl.FetchAt(m, a)) })
+			for _, text := range wildTexts {
+				add(func() answer { return asItWas(m, impl.ErrPage)(impl.PutBytes(m, a, text)) })
+			}
+			for _, b := range wildInts {
+				add(func() answer { return asItWas(m, impl.ErrClash, impl.ErrFull)(impl.AddPage(m, a, b)) })
+				add(func() answer { return asItWas(m, impl.ErrPage)(impl.SetPerm(m, a, b)) })
+				add(func() answer { return textAnswer(impl.GetBytes(m, a, b)) })
+				for _, stack := range []bool{false, true} {
+					add(func() answer { return numberAnswer(impl.LoadAt(m, a, b, stack)) })
+					add(func() answer {
+						return asItWas(m, impl.ErrAlign, impl.ErrPage, impl.ErrPerm, impl.ErrStack)(impl.StoreAt(m, a, b, a-b, stack))
+					})
+				}
+			}
+		}
+	}
+	return calls
+}
+
 // A panic in a call fails the test by itself.
 func TestAlikeArgumentsHaveAlikeAnswers(t *testing.T) {
-	calls := slices.Concat(bytesCalls(), codeCalls(), aluCalls())
+	calls := slices.Concat(bytesCalls(), codeCalls(), aluCalls(), memoryCalls())
+	given := fmt.Sprint(wildMemories)
 	first := make([]answer, len(calls))
 	for i, call := range calls {
 		first[i] = call()
@@ -148,5 +203,8 @@ func TestAlikeArgumentsHaveAlikeAnswers(t *testing.T) {
 		if calls[i]() != first[i] {
 			t.Errorf("call %d answers something else behind other calls", i)
 		}
+	}
+	if fmt.Sprint(wildMemories) != given {
+		t.Error("a call changes a memory that it was given")
 	}
 }

@@ -28,6 +28,7 @@ type answer struct {
 	shape  impl.Shape
 	instr  impl.Instr
 	memory string
+	hart   impl.Hart
 	code   int
 }
 
@@ -188,9 +189,70 @@ func memoryCalls() []func() answer {
 	return calls
 }
 
+// wildHarts has processors that are right, and some that are not.
+func wildHarts() []impl.Hart {
+	list := []impl.Hart{{}, placedHart(4096), numberHart(16384, 4), hartWith(lastBase, leastInt, greatestInt, -8, lastBase)}
+	for _, v := range wildInts {
+		list = append(list, hartWith(v, v), impl.Hart{Pc: v, Regs: [32]int{v}})
+	}
+	return list
+}
+
+// hartAsItWas takes the answer of a call that answers processor and memory as they were with a fault; there they count as nothing.
+func hartAsItWas(h impl.Hart, m impl.Memory) func(got impl.Hart, after impl.Memory, code int) answer {
+	return func(got impl.Hart, after impl.Memory, code int) answer {
+		out := asItWas(m, hartFaults...)(after, code)
+		if out.hart = got; slices.Contains(hartFaults, code) && got == h {
+			out.hart = impl.Hart{}
+		}
+		return out
+	}
+}
+
+// hartFaults has the codes with which a step leaves all as it was.
+var hartFaults = []int{impl.ErrAlign, impl.ErrPage, impl.ErrPerm, impl.ErrStack, impl.ErrEcall, impl.ErrBreak, impl.ErrCode}
+
+// ranAnswer takes the answer of RunHart; with a fault what it has come to counts as done.
+func ranAnswer(h impl.Hart, m impl.Memory, went, code int) answer {
+	out := answer{number: went, memory: memoryText(m), hart: h, code: code}
+	if slices.Contains(hartFaults, code) {
+		out.code, out.second = impl.OK, code
+	}
+	return out
+}
+
+// hartCalls hands out each call of chapter 6 with each of the wild arguments.
+func hartCalls() []func() answer {
+	var calls []func() answer
+	add := func(call func() answer) { calls = append(calls, call) }
+	instrs := wildInstrs()
+	for i, h := range wildHarts() {
+		add(func() answer { return answer{yes: impl.HartOK(h)} })
+		for _, a := range wildInts {
+			add(func() answer { return answer{hart: impl.NewHart(h.Pc, a)} })
+			for _, b := range wildInts {
+				add(func() answer {
+					got, code := impl.SetReg(h, a, b)
+					return answer{hart: got, code: code}
+				})
+			}
+		}
+		for _, m := range append([]impl.Memory{hartMemory()}, wildMemories...) {
+			add(func() answer { return hartAsItWas(h, m)(impl.StepHart(h, m)) })
+			for _, n := range append([]int{1000, 1001}, wildInts...) {
+				add(func() answer { return ranAnswer(impl.RunHart(h, m, n)) })
+			}
+			for j := i; j < len(instrs); j += 17 {
+				add(func() answer { return hartAsItWas(h, m)(impl.ExecInstr(h, m, instrs[j])) })
+			}
+		}
+	}
+	return calls
+}
+
 // A panic in a call fails the test by itself.
 func TestAlikeArgumentsHaveAlikeAnswers(t *testing.T) {
-	calls := slices.Concat(bytesCalls(), codeCalls(), aluCalls(), memoryCalls())
+	calls := slices.Concat(bytesCalls(), codeCalls(), aluCalls(), memoryCalls(), hartCalls())
 	given := fmt.Sprint(wildMemories)
 	first := make([]answer, len(calls))
 	for i, call := range calls {

@@ -250,9 +250,70 @@ func hartCalls() []func() answer {
 	return calls
 }
 
+// lintFaults has the codes with which LintFunction and InstrsOf name an instruction.
+var lintFaults = []int{impl.ErrCode, impl.ErrFrame, impl.ErrEnd, impl.ErrReturn, impl.ErrJump, impl.ErrCall, impl.ErrReg}
+
+// whereAnswer takes an answer that may name an instruction; where it may, that counts as done.
+func whereAnswer(where, code int) answer {
+	if slices.Contains(lintFaults, code) {
+		return answer{number: where, second: code}
+	}
+	return answer{number: where, code: code}
+}
+
+// listAnswer takes the answer of a call that answers a list.
+func listAnswer[E any](list []E, code int) answer {
+	if len(list) == 0 {
+		return answer{code: code}
+	}
+	return answer{text: fmt.Sprint(list), code: code}
+}
+
+// wildRuns has runs of words, some right, and texts that are none.
+func wildRuns() []string {
+	whole := wordsOf(twoTails().list)
+	runs := []string{whole, whole[:20], whole[:19], whole[4:], wordsOf(functionOf(64, listed("jal x1 -8\njal x1 -12\nbeq x0 x1 -8")...).list), wordsOf(sampleRun(64)), wordsOf(sampleRun(65)), "\x00\x00\x00\x00", whole + "\xff\xff\xff\xff", strings.Repeat("\x13", impl.MaxText)}
+	return append(runs, wildTexts...)
+}
+
+// lintCalls hands out each call of chapter 7 with each of the wild arguments.
+func lintCalls() []func() answer {
+	var calls []func() answer
+	add := func(call func() answer) { calls = append(calls, call) }
+	for _, a := range append(slices.Clone(allFrames), wildInts...) {
+		add(func() answer { return answer{yes: impl.FrameOK(a)} })
+		add(func() answer { return listAnswer(impl.Prologue(a)) })
+		add(func() answer { return listAnswer(impl.Epilogue(a)) })
+	}
+	instrs := wildInstrs()
+	for n := 0; n <= len(instrs); n += 1 + n/2 {
+		add(func() answer { return textAnswer(impl.WordsOf(instrs[:n])) })
+		add(func() answer { return textAnswer(impl.WordsOf(instrs[len(instrs)-n:])) })
+		add(func() answer { return textAnswer(impl.WordsOf(sampleRun(n % 100))) })
+	}
+	for _, run := range wildRuns() {
+		add(func() answer {
+			list, where, code := impl.InstrsOf(run)
+			out := whereAnswer(where, code)
+			out.text = listAnswer(list, code).text
+			return out
+		})
+		for _, a := range append([]int{4096, 1048572}, wildInts...) {
+			add(func() answer { return listAnswer(impl.CallsOf(run, a)) })
+			add(func() answer { return numberAnswer(impl.PhaseOf(run, a)) })
+			for _, frame := range append([]int{16, 64, 128}, wildInts...) {
+				add(func() answer { return whereAnswer(impl.LintFunction(run, a, frame, wildInts)) })
+				add(func() answer { return whereAnswer(impl.LintFunction(run, a, frame, make([]int, 4097))) })
+				add(func() answer { return whereAnswer(impl.LintFunction(run, a, frame, nil)) })
+			}
+		}
+	}
+	return calls
+}
+
 // A panic in a call fails the test by itself.
 func TestAlikeArgumentsHaveAlikeAnswers(t *testing.T) {
-	calls := slices.Concat(bytesCalls(), codeCalls(), aluCalls(), memoryCalls(), hartCalls())
+	calls := slices.Concat(bytesCalls(), codeCalls(), aluCalls(), memoryCalls(), hartCalls(), lintCalls())
 	given := fmt.Sprint(wildMemories)
 	first := make([]answer, len(calls))
 	for i, call := range calls {

@@ -19,9 +19,12 @@ const (
 var (
 	errRange = errors.New("out of its bounds")
 	errSize  = errors.New("of another length")
+	errForm  = errors.New("of no such form")
+	errSum   = errors.New("not the sum of what is ahead")
+	errEnd   = errors.New("cut off")
 )
 
-// argumentError names the argument that a fault lies in; what it wraps is the kind of fault.
+// argumentError names the argument, or the part of one, that a fault lies in; what it wraps is the kind of fault.
 type argumentError struct {
 	name string
 	kind error
@@ -40,6 +43,12 @@ func codeFrom(err error) int {
 		return ErrRange
 	case errors.Is(err, errSize):
 		return ErrSize
+	case errors.Is(err, errForm):
+		return ErrForm
+	case errors.Is(err, errSum):
+		return ErrSum
+	case errors.Is(err, errEnd):
+		return ErrEnd
 	}
 	return ErrBad
 }

@@ -311,10 +311,80 @@ func lintCalls() []func() answer {
 	return calls
 }
 
+// wildImages has images that are right, and some that are not.
+func wildImages() []impl.Image {
+	list := append(rightImages(), impl.Image{Code: strings.Repeat("a", impl.MaxText+1)}, impl.Image{Symbols: make([]impl.Symbol, 5000)})
+	for _, s := range imageSpoilers() {
+		im := mixedImage()
+		s.spoil(&im)
+		list = append(list, im)
+	}
+	for _, v := range wildInts {
+		for n := range 7 {
+			list = append(list, withSymbol(mixedImage(), n, func(y *impl.Symbol) { y.At = v }), withSymbol(mixedImage(), n, func(y *impl.Symbol) { y.Size = v }))
+			list = append(list, withSymbol(mixedImage(), n, func(y *impl.Symbol) { *y = impl.Symbol{Name: y.Name, Kind: y.Kind, At: v, Size: v, Frame: v} }))
+		}
+		list = append(list, withSymbol(mixedImage(), 0, func(y *impl.Symbol) { y.Frame = v }), withSymbol(mixedImage(), 1, func(y *impl.Symbol) { y.Kind = v }))
+	}
+	return list
+}
+
+// imageAnswer takes an answer that is an image.
+func imageAnswer(im impl.Image, code int) answer {
+	if emptyImage(im) {
+		return answer{code: code}
+	}
+	return answer{text: fmt.Sprint(im), code: code}
+}
+
+// imageCalls hands out each call of chapter 8 with each of the images, and with wild arguments beside it.
+func imageCalls(images []impl.Image) []func() answer {
+	var calls []func() answer
+	add := func(call func() answer) { calls = append(calls, call) }
+	for _, im := range images {
+		add(func() answer {
+			// A fault is told beside the numbers of what is not right.
+			n, where, fault := impl.LintImage(im)
+			return answer{text: fmt.Sprint(n, where, fault)}
+		})
+		add(func() answer { return answer{yes: impl.ImageOK(im)} })
+		add(func() answer { return textAnswer(impl.ImageText(im)) })
+		add(func() answer {
+			m, code := impl.LoadImage(im)
+			return answer{memory: memoryText(m), code: code}
+		})
+		for _, v := range wildInts {
+			add(func() answer { return numberAnswer(impl.AddressOf(im, v)) })
+			add(func() answer {
+				n, off, code := impl.SymbolAt(im, 4096+v)
+				return answer{number: n, second: off, code: code}
+			})
+		}
+		for _, name := range append([]string{"f0", "d2"}, wildTexts...) {
+			add(func() answer { return numberAnswer(impl.SymbolNamed(im, name)) })
+		}
+		if len(im.Code) <= codeLimit && len(im.Symbols) <= 255 {
+			body := bodyByRule(im)
+			for n := 0; n <= len(body); n += 1 + n/9 {
+				add(func() answer { return imageAnswer(impl.ReadImage(summed(body[:n]))) })
+			}
+			add(func() answer { return imageAnswer(impl.ReadImage(summed(body))) })
+		}
+	}
+	for _, text := range append([]string{"PIM1", "PIM1abcd", summed("PIM1"), summed("PIM1" + strings.Repeat("\xff", 60000))}, wildTexts...) {
+		add(func() answer { return imageAnswer(impl.ReadImage(text)) })
+	}
+	for _, v := range append([]int{3, 5}, wildInts...) {
+		add(func() answer { return numberAnswer(impl.StackTop(v)) })
+	}
+	return calls
+}
+
 // A panic in a call fails the test by itself.
 func TestAlikeArgumentsHaveAlikeAnswers(t *testing.T) {
-	calls := slices.Concat(bytesCalls(), codeCalls(), aluCalls(), memoryCalls(), hartCalls(), lintCalls())
-	given := fmt.Sprint(wildMemories)
+	images := wildImages()
+	calls := slices.Concat(bytesCalls(), codeCalls(), aluCalls(), memoryCalls(), hartCalls(), lintCalls(), imageCalls(images))
+	given := fmt.Sprint(wildMemories, images)
 	first := make([]answer, len(calls))
 	for i, call := range calls {
 		first[i] = call()
@@ -327,7 +397,7 @@ func TestAlikeArgumentsHaveAlikeAnswers(t *testing.T) {
 			t.Errorf("call %d answers something else behind other calls", i)
 		}
 	}
-	if fmt.Sprint(wildMemories) != given {
-		t.Error("a call changes a memory that it was given")
+	if fmt.Sprint(wildMemories, images) != given {
+		t.Error("a call changes a memory or an image that it was given")
 	}
 }

@@ -2,6 +2,7 @@ package tests
 
 import (
 	"fmt"
+	"maps"
 	"slices"
 	"strings"
 	"testing"
@@ -380,11 +381,85 @@ func imageCalls(images []impl.Image) []func() answer {
 	return calls
 }
 
+// wildObjects has objects that are right, and some that are not.
+func wildObjects() []impl.Object {
+	list, wrong := rightObjects(), wrongObjects()
+	for _, what := range slices.Sorted(maps.Keys(wrong)) {
+		list = append(list, wrong[what])
+	}
+	for _, v := range wildInts {
+		list = append(list, withReloc(impl.Reloc{Unit: v, At: v, Kind: v, Symbol: "s", Addend: v}))
+		list = append(list, withReloc(impl.Reloc{Unit: 1, At: v, Kind: 1, Symbol: "s"}), withReloc(impl.Reloc{Unit: v, At: 0, Kind: 9, Symbol: "s"}))
+		list = append(list, changed(smallObject(), func(o *impl.Object) { o.Depth = v }), changed(smallObject(), func(o *impl.Object) { o.Funcs[0].Frame = v }))
+		list = append(list, changed(mixedObject(), func(o *impl.Object) { o.Shadows[1].Id = v }), changed(mixedObject(), func(o *impl.Object) { o.Relocs[4].Addend = v }))
+	}
+	for _, text := range wildTexts {
+		list = append(list, changed(smallObject(), func(o *impl.Object) { o.Funcs[0].Code = text }), changed(mixedObject(), func(o *impl.Object) { o.Datas[1].Bytes = text }))
+		list = append(list, changed(mixedObject(), func(o *impl.Object) { o.Datas[1].Name = text }), changed(mixedObject(), func(o *impl.Object) { o.Relocs[1].Symbol = text }))
+	}
+	return list
+}
+
+// objectAnswer takes an answer that is an object.
+func objectAnswer(o impl.Object, code int) answer {
+	if emptyObject(o) {
+		return answer{code: code}
+	}
+	return answer{text: fmt.Sprint(o), code: code}
+}
+
+// objectTextCalls hands out ReadObject with the objects' texts, cut off and spoiled, and with wild ones.
+func objectTextCalls(objects []impl.Object) []func() answer {
+	var calls []func() answer
+	add := func(text string) {
+		calls = append(calls, func() answer { return objectAnswer(impl.ReadObject(text)) })
+	}
+	for _, o := range objects {
+		body := bodyOfObject(o)
+		if len(body) > impl.MaxText {
+			continue
+		}
+		for n := 0; n <= len(body); n += 1 + n/5 {
+			add(summed(body[:n]))
+			add(summed(body[:n] + "\xff\xff" + body[n:]))
+		}
+		add(summed(body))
+	}
+	for _, text := range append([]string{"POB1", "POB1abcd", summed("POB1"), summed("POB1" + strings.Repeat("\xff", 60000)), summed("POB1" + strings.Repeat("\x01", 65000))}, wildTexts...) {
+		add(text)
+	}
+	return calls
+}
+
+// objectCalls hands out each call of chapter 9 with each of the objects, and with wild arguments beside it.
+func objectCalls(objects []impl.Object) []func() answer {
+	calls := objectTextCalls(objects)
+	add := func(call func() answer) { calls = append(calls, call) }
+	for i, o := range objects {
+		add(func() answer {
+			// A fault is told beside the number of what is not right.
+			n, fault := impl.LintObject(o)
+			return answer{text: fmt.Sprint(n, fault)}
+		})
+		add(func() answer { return answer{yes: impl.ObjectOK(o)} })
+		add(func() answer { return textAnswer(impl.ObjectText(o)) })
+		add(func() answer { return listAnswer(impl.AddedNames(o)) })
+		add(func() answer { return listAnswer(impl.ReplacedNames(o)) })
+		for _, v := range wildInts {
+			add(func() answer { return numberAnswer(impl.UnitSize(o, v)) })
+		}
+		for j := i % 5; j < len(objects); j += 5 {
+			add(func() answer { return answer{yes: impl.SameObject(o, objects[j])} })
+		}
+	}
+	return calls
+}
+
 // A panic in a call fails the test by itself.
 func TestAlikeArgumentsHaveAlikeAnswers(t *testing.T) {
-	images := wildImages()
-	calls := slices.Concat(bytesCalls(), codeCalls(), aluCalls(), memoryCalls(), hartCalls(), lintCalls(), imageCalls(images))
-	given := fmt.Sprint(wildMemories, images)
+	images, objects := wildImages(), wildObjects()
+	calls := slices.Concat(bytesCalls(), codeCalls(), aluCalls(), memoryCalls(), hartCalls(), lintCalls(), imageCalls(images), objectCalls(objects))
+	given := fmt.Sprint(wildMemories, images, objects)
 	first := make([]answer, len(calls))
 	for i, call := range calls {
 		first[i] = call()
@@ -397,7 +472,7 @@ func TestAlikeArgumentsHaveAlikeAnswers(t *testing.T) {
 			t.Errorf("call %d answers something else behind other calls", i)
 		}
 	}
-	if fmt.Sprint(wildMemories, images) != given {
-		t.Error("a call changes a memory or an image that it was given")
+	if fmt.Sprint(wildMemories, images, objects) != given {
+		t.Error("a call changes a memory, an image or an object that it was given")
 	}
 }

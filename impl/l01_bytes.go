@@ -61,10 +61,13 @@ func inside(name string, v, low, high int) error {
 	return nil
 }
 
+// checkWord finds fault with what is no word.
+func checkWord(name string, word int) error { return inside(name, word, 0, math.MaxUint32) }
+
 // checkField finds fault with a field that is not one of a word.
 func checkField(word, low, count int) error {
 	return cmp.Or(
-		inside("word", word, 0, math.MaxUint32),
+		checkWord("word", word),
 		inside("low", low, 0, wordBits-1),
 		inside("count", count, 1, wordBits-low),
 	)

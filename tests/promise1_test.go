@@ -455,10 +455,44 @@ func objectCalls(objects []impl.Object) []func() answer {
 	return calls
 }
 
+// relocCalls hands out each call of chapter 10 with each of the wild arguments.
+func relocCalls() []func() answer {
+	var calls []func() answer
+	add := func(call func() answer) { calls = append(calls, call) }
+	for _, text := range append(slices.Clone(relocNames), wildTexts...) {
+		add(func() answer { return answer{number: impl.RelocOf(text)} })
+	}
+	numbers := append([]int{3, 5, 6, 7, 9, 4096, lastPlace}, wildInts...)
+	words := slices.Concat(wildInts, someWordsOfAll())
+	for _, a := range numbers {
+		add(func() answer { return answer{text: impl.RelocName(a)} })
+		add(func() answer {
+			upper, lower, code := impl.SplitAddress(a)
+			return answer{number: upper, second: lower, code: code}
+		})
+		for _, b := range numbers {
+			add(func() answer { return numberAnswer(impl.Trampoline(a, b)) })
+		}
+		for _, word := range words {
+			add(func() answer { return numberAnswer(impl.TargetOf(word, a)) })
+			add(func() answer { return numberAnswer(impl.PairAddress(word, words[len(words)-1], a)) })
+			for n, b := range numbers {
+				add(func() answer { return numberAnswer(impl.ApplyReloc(word, a, b, numbers[(n+word&15)%len(numbers)])) })
+			}
+		}
+	}
+	for i, first := range words {
+		for j := i % 3; j < len(words); j += 3 {
+			add(func() answer { return numberAnswer(impl.PairAddress(first, words[j], 4096)) })
+		}
+	}
+	return calls
+}
+
 // A panic in a call fails the test by itself.
 func TestAlikeArgumentsHaveAlikeAnswers(t *testing.T) {
 	images, objects := wildImages(), wildObjects()
-	calls := slices.Concat(bytesCalls(), codeCalls(), aluCalls(), memoryCalls(), hartCalls(), lintCalls(), imageCalls(images), objectCalls(objects))
+	calls := slices.Concat(bytesCalls(), codeCalls(), aluCalls(), memoryCalls(), hartCalls(), lintCalls(), imageCalls(images), objectCalls(objects), relocCalls())
 	given := fmt.Sprint(wildMemories, images, objects)
 	first := make([]answer, len(calls))
 	for i, call := range calls {

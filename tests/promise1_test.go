@@ -489,11 +489,98 @@ func relocCalls() []func() answer {
 	return calls
 }
 
+// wildTables has tables that are right, and some that are not.
+func wildTables() [][]impl.Entry {
+	list, wrong := rightTables(), wrongTables()
+	for _, what := range slices.Sorted(maps.Keys(wrong)) {
+		list = append(list, wrong[what])
+	}
+	for _, v := range wildInts {
+		for n := range 3 {
+			list = append(list, withEntry(n, func(e *impl.Entry) { e.At = v }), withEntry(n, func(e *impl.Entry) { e.Size, e.Owner = v, v }))
+		}
+	}
+	return append(list, make([]impl.Entry, impl.MaxList+1))
+}
+
+// wildCases has what can be linked, and what can not.
+func wildCases(objects []impl.Object) []linkCase {
+	var list []linkCase
+	for i, table := range wildTables() {
+		list = append(list, linkCase{table, systemCase().code, systemCase().data, objects[i%len(objects)]}, linkCase{table, systemCase().code, systemCase().data, systemObject()})
+	}
+	for _, a := range slices.Concat(rightAreas(), wrongAreas()) {
+		list = append(list, linkCase{systemTable(), a, systemCase().data, systemObject()}, linkCase{systemTable(), systemCase().code, a, systemObject()})
+	}
+	for _, o := range objects {
+		list = append(list, linkCase{systemTable(), systemCase().code, systemCase().data, o})
+	}
+	for _, s := range slices.Concat(nameSpoilers(), roomSpoilers(), relocFaults(), builtSpoilers(), callSpoilers()) {
+		list = append(list, spoiledBy(s))
+	}
+	d := dice(25)
+	for range 200 {
+		list = append(list, anyLinkCase(&d))
+	}
+	return list
+}
+
+// linkedAnswer takes an answer that is what was linked.
+func linkedAnswer(got linkAnswer) answer {
+	if got.is(linkAnswer{fault: got.fault}) {
+		return answer{code: got.fault}
+	}
+	return answer{text: got.String(), code: got.fault}
+}
+
+// areaCalls hands out AreaOK and PlaceIn with wild arguments.
+func areaCalls() []func() answer {
+	var calls []func() answer
+	for _, a := range slices.Concat(rightAreas(), wrongAreas()) {
+		calls = append(calls, func() answer { return answer{yes: impl.AreaOK(a)} })
+		for _, n := range wildInts {
+			calls = append(calls, func() answer {
+				next, at, code := impl.PlaceIn(a, n)
+				if code == impl.ErrFull && next == a {
+					next = impl.Area{}
+				}
+				return answer{memory: strings.TrimPrefix(fmt.Sprint(next), "{0 0 0}"), number: at, code: code}
+			})
+		}
+	}
+	return calls
+}
+
+// linkCalls hands out each call of chapter 11 with each of the cases, and with wild arguments beside it.
+func linkCalls(cases []linkCase, images []impl.Image) []func() answer {
+	calls := areaCalls()
+	add := func(call func() answer) { calls = append(calls, call) }
+	for _, im := range images {
+		add(func() answer { return listAnswer(impl.ImageTable(im)) })
+	}
+	names := append([]string{"main", "e3", "_", longestName}, wildTexts...)
+	for i, c := range cases {
+		add(func() answer { return answer{yes: impl.TableOK(c.table)} })
+		add(func() answer { return numberAnswer(impl.FindEntry(c.table, names[i%len(names)])) })
+		add(func() answer { return numberAnswer(impl.EntryAt(c.table, wildInts[i%len(wildInts)])) })
+		add(func() answer { return numberAnswer(impl.EntryAt(c.table, 4096)) })
+		add(func() answer { return linkedAnswer(c.link()) })
+		other := cases[(i+7)%len(cases)]
+		for _, l := range []impl.Linked{linkedOf(c.object), linkedOf(other.object), {Ats: wildInts, Codes: wildTexts}} {
+			add(func() answer { return listAnswer(impl.TableWith(c.table, c.object, l, 1+i%6)) })
+			add(func() answer { return listAnswer(impl.TableWith(c.table, c.object, l, wildInts[i%len(wildInts)])) })
+			add(func() answer { return answer{yes: impl.SameLinked(l, linkedOf(c.object))} })
+		}
+	}
+	return calls
+}
+
 // A panic in a call fails the test by itself.
 func TestAlikeArgumentsHaveAlikeAnswers(t *testing.T) {
 	images, objects := wildImages(), wildObjects()
-	calls := slices.Concat(bytesCalls(), codeCalls(), aluCalls(), memoryCalls(), hartCalls(), lintCalls(), imageCalls(images), objectCalls(objects), relocCalls())
-	given := fmt.Sprint(wildMemories, images, objects)
+	cases := wildCases(objects)
+	calls := slices.Concat(bytesCalls(), codeCalls(), aluCalls(), memoryCalls(), hartCalls(), lintCalls(), imageCalls(images), objectCalls(objects), relocCalls(), linkCalls(cases, images))
+	given := fmt.Sprint(wildMemories, images, objects, cases)
 	first := make([]answer, len(calls))
 	for i, call := range calls {
 		first[i] = call()
@@ -506,7 +593,7 @@ func TestAlikeArgumentsHaveAlikeAnswers(t *testing.T) {
 			t.Errorf("call %d answers something else behind other calls", i)
 		}
 	}
-	if fmt.Sprint(wildMemories, images, objects) != given {
-		t.Error("a call changes a memory, an image or an object that it was given")
+	if fmt.Sprint(wildMemories, images, objects, cases) != given {
+		t.Error("a call changes a memory, an image, an object or a table that it was given")
 	}
 }

@@ -575,12 +575,56 @@ func linkCalls(cases []linkCase, images []impl.Image) []func() answer {
 	return calls
 }
 
+// wildShadows has lists of shadow variables that are right, and some that are not.
+func wildShadows() [][]impl.Shadow {
+	list, wrong := rightShadows(), wrongShadows()
+	for _, what := range slices.Sorted(maps.Keys(wrong)) {
+		list = append(list, wrong[what])
+	}
+	for _, v := range wildInts {
+		list = append(list, []impl.Shadow{{Object: v, Id: 7, Value: v}}, []impl.Shadow{{Object: v, Id: v}, {Object: v, Id: v + 1}})
+	}
+	return append(list, make([]impl.Shadow, impl.MaxList+1))
+}
+
+// listedShadows takes an answer of chapter 12; with the codes that leave the list as it was it counts as nothing.
+func listedShadows(given []impl.Shadow, got shadowAnswer) answer {
+	if slices.Contains([]int{impl.ErrClash, impl.ErrFull, impl.ErrNone}, got.code) && slices.Equal(got.list, given) {
+		got.list = nil
+	}
+	out := listAnswer(got.list, got.code)
+	out.number = got.number
+	return out
+}
+
+// shadowListCalls hands out each call of chapter 12 with each of the lists, and with wild arguments beside it.
+func shadowListCalls(lists [][]impl.Shadow) []func() answer {
+	var calls []func() answer
+	add := func(call func() answer) { calls = append(calls, call) }
+	for i, list := range lists {
+		add(func() answer { return answer{yes: impl.ShadowsOK(list)} })
+		for j := i % 9; j < len(lists); j += 9 {
+			add(func() answer { return answer{yes: impl.SameShadows(list, lists[j])} })
+		}
+		asks := fewAsks(list)
+		for n, v := range wildInts {
+			asks = append(asks, shadowAsk{v, v, v}, shadowAsk{v, 9, -v}, shadowAsk{wildInts[(n+i)%len(wildInts)], n % 3, v})
+		}
+		for _, ask := range asks {
+			for _, c := range shadowCalls() {
+				add(func() answer { return listedShadows(list, c.call(list, ask)) })
+			}
+		}
+	}
+	return calls
+}
+
 // A panic in a call fails the test by itself.
 func TestAlikeArgumentsHaveAlikeAnswers(t *testing.T) {
 	images, objects := wildImages(), wildObjects()
-	cases := wildCases(objects)
-	calls := slices.Concat(bytesCalls(), codeCalls(), aluCalls(), memoryCalls(), hartCalls(), lintCalls(), imageCalls(images), objectCalls(objects), relocCalls(), linkCalls(cases, images))
-	given := fmt.Sprint(wildMemories, images, objects, cases)
+	cases, shadows := wildCases(objects), wildShadows()
+	calls := slices.Concat(bytesCalls(), codeCalls(), aluCalls(), memoryCalls(), hartCalls(), lintCalls(), imageCalls(images), objectCalls(objects), relocCalls(), linkCalls(cases, images), shadowListCalls(shadows))
+	given := fmt.Sprint(wildMemories, images, objects, cases, shadows)
 	first := make([]answer, len(calls))
 	for i, call := range calls {
 		first[i] = call()
@@ -593,7 +637,7 @@ func TestAlikeArgumentsHaveAlikeAnswers(t *testing.T) {
 			t.Errorf("call %d answers something else behind other calls", i)
 		}
 	}
-	if fmt.Sprint(wildMemories, images, objects, cases) != given {
-		t.Error("a call changes a memory, an image, an object or a table that it was given")
+	if fmt.Sprint(wildMemories, images, objects, cases, shadows) != given {
+		t.Error("a call changes a memory, an image, an object, a table or a list that it was given")
 	}
 }

@@ -619,12 +619,74 @@ func shadowListCalls(lists [][]impl.Shadow) []func() answer {
 	return calls
 }
 
+// wildMachines has machines that are right, and some that are not.
+func wildMachines() []impl.Machine {
+	list, wrong, parts := rightMachines(), wrongMachines(), spoiledParts()
+	for _, what := range slices.Sorted(maps.Keys(wrong)) {
+		list = append(list, wrong[what])
+	}
+	for n, what := range slices.Sorted(maps.Keys(parts)) {
+		if n%40 == 0 {
+			list = append(list, parts[what])
+		}
+	}
+	for n, v := range wildInts {
+		m := asking(standing(hartWith(4096, v), "ecall"), 1, 1+n%10, v, 7, v)
+		list = append(list, m, rethreaded(m, 1, func(x *impl.Thread) { x.Hart.Pc = v }), asking(m, 1, v, v, v, v), asking(m, 1, impl.SysSpawn, v, v, v), asking(m, 1, impl.SysGetOr, 7, v, 1))
+	}
+	return list
+}
+
+// machineText answers a text that tells each thing of a machine, the empty text of none.
+func machineText(m impl.Machine) string {
+	if emptyMachine(m) {
+		return ""
+	}
+	return fmt.Sprint(m)
+}
+
+// machineAsItWas takes the answer of a call that answers the machine as it was with some codes; there that machine counts as nothing.
+func machineAsItWas(given, got impl.Machine, n, code int) answer {
+	if slices.Contains([]int{impl.ErrNone, impl.ErrDone}, code) && sameMachines(given, got) {
+		got = impl.Machine{}
+	}
+	return answer{memory: machineText(got), number: n, code: code}
+}
+
+// wholeMachineCalls hands out each call of chapter 13 with each of the machines, and with wild arguments beside it.
+func wholeMachineCalls(machines []impl.Machine, images []impl.Image) []func() answer {
+	var calls []func() answer
+	add := func(call func() answer) { calls = append(calls, call) }
+	for i := 0; i < len(images); i += 3 {
+		add(func() answer {
+			m, code := impl.NewMachine(images[i])
+			return answer{memory: machineText(m), code: code}
+		})
+	}
+	for i, m := range machines {
+		add(func() answer { return answer{yes: impl.MachineOK(m)} })
+		add(func() answer { return listAnswer(impl.RunningOf(m)) })
+		for j := i % 9; j < len(machines); j += 9 {
+			add(func() answer { return answer{yes: impl.SameMachine(m, machines[j])} })
+		}
+		for _, v := range []int{0, 1, 2, 3, 4, 40, 41, wildInts[i%len(wildInts)]} {
+			for _, name := range slices.Sorted(maps.Keys(machineCalls)) {
+				add(func() answer {
+					got, n, code := machineCalls[name](m, v)
+					return machineAsItWas(m, got, n, code)
+				})
+			}
+		}
+	}
+	return calls
+}
+
 // A panic in a call fails the test by itself.
 func TestAlikeArgumentsHaveAlikeAnswers(t *testing.T) {
 	images, objects := wildImages(), wildObjects()
-	cases, shadows := wildCases(objects), wildShadows()
-	calls := slices.Concat(bytesCalls(), codeCalls(), aluCalls(), memoryCalls(), hartCalls(), lintCalls(), imageCalls(images), objectCalls(objects), relocCalls(), linkCalls(cases, images), shadowListCalls(shadows))
-	given := fmt.Sprint(wildMemories, images, objects, cases, shadows)
+	cases, shadows, machines := wildCases(objects), wildShadows(), wildMachines()
+	calls := slices.Concat(bytesCalls(), codeCalls(), aluCalls(), memoryCalls(), hartCalls(), lintCalls(), imageCalls(images), objectCalls(objects), relocCalls(), linkCalls(cases, images), shadowListCalls(shadows), wholeMachineCalls(machines, images))
+	given := fmt.Sprint(wildMemories, images, objects, cases, shadows, machines)
 	first := make([]answer, len(calls))
 	for i, call := range calls {
 		first[i] = call()
@@ -637,7 +699,7 @@ func TestAlikeArgumentsHaveAlikeAnswers(t *testing.T) {
 			t.Errorf("call %d answers something else behind other calls", i)
 		}
 	}
-	if fmt.Sprint(wildMemories, images, objects, cases, shadows) != given {
-		t.Error("a call changes a memory, an image, an object, a table or a list that it was given")
+	if fmt.Sprint(wildMemories, images, objects, cases, shadows, machines) != given {
+		t.Error("a call changes a memory, an image, an object, a table, a list or a machine that it was given")
 	}
 }
